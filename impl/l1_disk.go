@@ -82,15 +82,17 @@ type DiskOut struct {
 	Queue        int
 }
 
-// What a disk may refuse an operation for; codeOf tells the code of each.
+// What an operation may be refused for; codeOf tells the code of each.
 var (
-	errName  = errors.New("not a good name")
-	errNone  = errors.New("no such file")
-	errExist = errors.New("the name is taken")
-	errRange = errors.New("out of range")
-	errFull  = errors.New("no room is left")
-	errPower = errors.New("the power is off")
-	errKind  = errors.New("no such kind of operation")
+	errName    = errors.New("not a good name")
+	errNone    = errors.New("no such file")
+	errExist   = errors.New("the name is taken")
+	errRange   = errors.New("out of range")
+	errFull    = errors.New("no room is left")
+	errPower   = errors.New("the power is off")
+	errCorrupt = errors.New("no node has left these files")
+	errFailed  = errors.New("the node has failed")
+	errKind    = errors.New("no such kind of operation")
 )
 
 // refusal says which operation, on which name, was refused.
@@ -110,25 +112,31 @@ func refuse(op DiskOp, cause error) error {
 	return &refusal{kind: op.Kind, name: op.Name, cause: cause}
 }
 
-// codeOf looks for the refusal under whatever it was wrapped in on its way.
+// codeOf looks for the disk's refusal under whatever it was wrapped in on its way; what no disk has refused tells its own code.
 func codeOf(err error) int {
 	var r *refusal
-	if !errors.As(err, &r) {
-		return OK
+	if errors.As(err, &r) {
+		err = r.cause
 	}
 	switch {
-	case errors.Is(r, errName):
+	case err == nil:
+		return OK
+	case errors.Is(err, errName):
 		return ErrName
-	case errors.Is(r, errNone):
+	case errors.Is(err, errNone):
 		return ErrNone
-	case errors.Is(r, errExist):
+	case errors.Is(err, errExist):
 		return ErrExist
-	case errors.Is(r, errRange):
+	case errors.Is(err, errRange):
 		return ErrRange
-	case errors.Is(r, errFull):
+	case errors.Is(err, errFull):
 		return ErrFull
-	case errors.Is(r, errPower):
+	case errors.Is(err, errPower):
 		return ErrPower
+	case errors.Is(err, errCorrupt):
+		return ErrCorrupt
+	case errors.Is(err, errFailed):
+		return ErrFailed
 	}
 	return ErrKind
 }
