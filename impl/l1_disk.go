@@ -93,6 +93,11 @@ var (
 	errCorrupt = errors.New("no node has left these files")
 	errFailed  = errors.New("the node has failed")
 	errKind    = errors.New("no such kind of operation")
+
+	errDown      = errors.New("the node is down")
+	errLeader    = errors.New("not for a node of that role")
+	errBeyond    = errors.New("the place is beyond the last item")
+	errCompacted = errors.New("the item isn't kept any more")
 )
 
 // refusal says which operation, on which name, was refused.
@@ -137,6 +142,14 @@ func codeOf(err error) int {
 		return ErrCorrupt
 	case errors.Is(err, errFailed):
 		return ErrFailed
+	case errors.Is(err, errDown):
+		return ErrDown
+	case errors.Is(err, errLeader):
+		return ErrLeader
+	case errors.Is(err, errBeyond):
+		return ErrBeyond
+	case errors.Is(err, errCompacted):
+		return ErrCompacted
 	}
 	return ErrKind
 }
