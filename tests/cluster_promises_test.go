@@ -8,23 +8,23 @@ import (
 	"loop.example/s01723/impl"
 )
 
-// witness holds what is seen of a run against the promises 12 to 15, without asking the model.
+// witness holds what the program shows of a run against the promises 12 to 15. It takes from the model only of which node an observation is.
 type witness struct {
 	t       *testing.T
-	items   map[int]string // by place: client and seq
-	data    map[int]string // by place: the data, where they were seen
-	places  map[string]int // by client and seq
-	leaders map[int]int    // by term
-	terms   map[int]int    // by node: the last that was seen
-	votes   map[[2]int]int // by node and term
-	roles   map[int]int    // by node: the last that was seen
-	acked   map[int]int    // by place: the event that acknowledged it first
+	items   map[int]string    // by place: client and seq
+	data    map[int]string    // by place: the data, where they were seen
+	places  map[string]int    // by client and seq
+	leaders map[int]int       // by term
+	terms   map[int]int       // by node: the last that was seen
+	votes   map[[2]int]int    // by node and term
+	views   map[int]impl.View // by node: the last that was seen
+	acked   map[int]int       // by place: the event that acknowledged it first
 }
 
 func newWitness(t *testing.T) *witness {
 	return &witness{
 		t: t, items: map[int]string{}, data: map[int]string{}, places: map[string]int{}, leaders: map[int]int{},
-		terms: map[int]int{}, votes: map[[2]int]int{}, roles: map[int]int{}, acked: map[int]int{},
+		terms: map[int]int{}, votes: map[[2]int]int{}, views: map[int]impl.View{}, acked: map[int]int{},
 	}
 }
 
@@ -59,7 +59,7 @@ func (w *witness) service(k int, s impl.Service) {
 
 // node: terms don't fall, nobody votes twice, nobody leads beside another.
 func (w *witness) node(k, n int, v impl.View) {
-	w.roles[n] = v.Role
+	w.views[n] = v
 	if v.Role < impl.RoleFollower {
 		return
 	}
@@ -81,11 +81,11 @@ func (w *witness) node(k, n int, v impl.View) {
 
 // sees takes an observation; n is the node that it is of, or 0.
 func (w *witness) sees(k, n int, e impl.Event, o impl.Obs) {
-	was := w.roles[n]
+	was, seen := w.views[n]
 	if o.Code != impl.OK && (len(o.Sent) > 0 || len(o.Acks) > 0) {
 		w.t.Fatalf("event %d: something is sent with a code: %s", k, tellObs(o))
 	}
-	if was == impl.RoleFailed && e.Kind != impl.EvRestart && (len(o.Sent) > 0 || len(o.Acks) > 0 || o.View.Role > impl.RoleFailed) {
+	if seen && was.Role == impl.RoleFailed && e.Kind != impl.EvRestart && (len(o.Sent) > 0 || len(o.Acks) > 0 || o.View.Role > impl.RoleFailed) {
 		w.t.Fatalf("event %d: a failed node: %s", k, tellObs(o))
 	}
 	if n != 0 {
@@ -207,7 +207,7 @@ func TestClusterPromises(t *testing.T) {
 					t.Fatalf("not acknowledged:\n%s", tellEvents(p.events))
 				}
 				for k := range p.nodes {
-					if v := p.model.nodes[k].view(); v.Count != place+1 {
+					if v := seen.views[k+1]; v.Count != place+1 {
 						t.Fatalf("node %d doesn't follow: %s", k+1, tellView(v))
 					}
 				}
