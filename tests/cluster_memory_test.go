@@ -80,6 +80,17 @@ func TestClusterMemory(t *testing.T) {
 	}
 }
 
+// wantGoroutines asks that no more are left than there were. One that has done all may need a moment until it isn't counted any more.
+func wantGoroutines(t *testing.T, before int) {
+	t.Helper()
+	for k := 0; runtime.NumGoroutine() > before; k++ {
+		if k == 1000 {
+			t.Fatalf("%d goroutines, %d before", runtime.NumGoroutine(), before)
+		}
+		time.Sleep(time.Millisecond)
+	}
+}
+
 // Ways: all goroutines have ended when the call answers, also one that answers a code; and runs beside one another don't mix.
 func TestClusterGoroutines(t *testing.T) {
 	r := rand.New(rand.NewPCG(5, 5))
@@ -90,13 +101,7 @@ func TestClusterGoroutines(t *testing.T) {
 	impl.ClusterRun(8, 0, nil)
 	impl.ClusterRun(7, 0, make([]impl.Event, impl.MaxEvents+1))
 	impl.ClusterRun(p.nodes, p.room, p.events)
-	// A goroutine that has told that it is done may need a moment until it isn't counted any more.
-	for k := 0; runtime.NumGoroutine() > before; k++ {
-		if k == 1000 {
-			t.Fatalf("%d goroutines, %d before", runtime.NumGoroutine(), before)
-		}
-		time.Sleep(time.Millisecond)
-	}
+	wantGoroutines(t, before)
 	var all gosync.WaitGroup
 	for range 8 {
 		all.Go(func() {
